@@ -1,0 +1,1 @@
+"""Stagehall, layer a: dimmers, channels, loads."""
