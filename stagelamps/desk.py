@@ -1,13 +1,16 @@
 """The desk: the patch that is held, the levels of the channels, and the calls on them."""
 
-from stagelamps.levels import FULL_LEVEL, given_by
-from stagelamps.patches import CHANNELS, TextFault, read_patch, write_patch
+from stagelamps.dealings import deal_evenly
+from stagelamps.levels import FULL_LEVEL, given_by, least_level
+from stagelamps.patches import CHANNELS, MOST_LOAD, PHASES, TextFault, read_patch, write_patch
 from stagelamps.reader import CallReader
 
 MOST_TEXT = 8192
+MOST_DEALT = 9
 
 OUT_OF_BOUNDS = -1
 TOO_LONG = -2
+NO_SUCH_LEVEL = -3
 NO_SUCH_DIMMER = -4
 NO_PATCH = -6
 
@@ -16,6 +19,11 @@ PRINT_PATCH = 1
 SET_LEVEL = 2
 LEVEL = 3
 OUT = 4
+OUTS = 5
+CHANNEL = 6
+NEEDS = 7
+LOAD = 8
+EVENLY = 9
 
 
 class UnknownCall(ValueError):
@@ -26,6 +34,14 @@ def is_channel(number):
     return 1 <= number <= CHANNELS
 
 
+def is_phase(number):
+    return 1 <= number <= PHASES
+
+
+def can_be_dealt(loads):
+    return len(loads) <= MOST_DEALT and all([load <= MOST_LOAD for load in loads])
+
+
 class Desk:
     def __init__(self):
         self.dimmers = []
@@ -34,6 +50,9 @@ class Desk:
     # Channels count from 1, the places of a list from 0.
     def level_of(self, channel):
         return self.levels[channel - 1]
+
+    def given_now(self, dimmer):
+        return given_by(dimmer, self.level_of(dimmer.channel))
 
     def find_dimmer(self, number):
         for dimmer in self.dimmers:
@@ -70,7 +89,37 @@ class Desk:
         dimmer = self.find_dimmer(number)
         if dimmer is None:
             return [NO_SUCH_DIMMER]
-        return [given_by(dimmer, self.level_of(dimmer.channel))]
+        return [self.given_now(dimmer)]
+
+    def answer_outs(self):
+        given = [self.given_now(dimmer) for dimmer in self.dimmers]
+        return [len(given)] + given
+
+    def answer_channel(self, channel):
+        if not is_channel(channel):
+            return [OUT_OF_BOUNDS]
+        numbers = [dimmer.number for dimmer in self.dimmers if dimmer.channel == channel]
+        return [len(numbers)] + numbers
+
+    def answer_needs(self, number, much):
+        dimmer = self.find_dimmer(number)
+        if dimmer is None:
+            return [NO_SUCH_DIMMER]
+        level = least_level(dimmer, much)
+        if level is None:
+            return [NO_SUCH_LEVEL]
+        return [level]
+
+    def answer_load(self, phase):
+        if not is_phase(phase):
+            return [OUT_OF_BOUNDS]
+        return [sum([dimmer.load * self.given_now(dimmer) for dimmer in self.dimmers if dimmer.phase == phase])]
+
+    def answer_evenly(self, loads):
+        if not can_be_dealt(loads):
+            return [OUT_OF_BOUNDS]
+        dealing = deal_evenly(loads)
+        return [max(dealing.sums)] + dealing.phases
 
 
 def answer_next(desk, reader):
@@ -87,6 +136,18 @@ def answer_next(desk, reader):
         return desk.answer_level(reader.take_number())
     if call == OUT:
         return desk.answer_out(reader.take_number())
+    if call == OUTS:
+        return desk.answer_outs()
+    if call == CHANNEL:
+        return desk.answer_channel(reader.take_number())
+    if call == NEEDS:
+        number = reader.take_number()
+        much = reader.take_number()
+        return desk.answer_needs(number, much)
+    if call == LOAD:
+        return desk.answer_load(reader.take_number())
+    if call == EVENLY:
+        return desk.answer_evenly(reader.take_row())
     raise UnknownCall(f"call {call} is not known")
 
 

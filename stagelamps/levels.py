@@ -22,3 +22,10 @@ def curve_at(curve, level):
 
 def given_by(dimmer, level):
     return curve_at(dimmer.curve, level) * dimmer.limit // 100
+
+
+def least_level(dimmer, much):
+    for level in range(FULL_LEVEL + 1):
+        if given_by(dimmer, level) >= much:
+            return level
+    return None

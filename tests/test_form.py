@@ -32,6 +32,8 @@ WORDS = (
     r"\b(type|typing|typing_extensions|enum|Enum|IntEnum|StrEnum|Flag|IntFlag|Generic|Protocol|ABC|ABCMeta|namedtuple|"
     r"NamedTuple|TypedDict|TYPE_CHECKING|abstractmethod)\b|dataclass|overload|contextmanager"
 )
+WALKED_IN = {"list", "tuple", "dict", "sorted", "sum", "any", "all", "enumerate", "zip", "min", "max"}
+WALKED_AT_ONCE = {"zip", "enumerate", "reversed", "range"}
 
 
 def tree_of(path):
@@ -65,6 +67,33 @@ def bound_names(tree):
         if isinstance(node, ast.ExceptHandler) and node.name:
             names.append(node.name)
     return names
+
+
+def drawn_from(path):
+    """The files that one draws from, itself or through others."""
+    reached = []
+    waiting = [path]
+    while waiting:
+        for node in ast.walk(tree_of(waiting.pop())):
+            if isinstance(node, ast.ImportFrom):
+                other = ROOT / (node.module.replace(".", "/") + ".py")
+                if other not in reached:
+                    reached.append(other)
+                    waiting.append(other)
+    return reached
+
+
+def called(node):
+    return node.func.id if isinstance(node, ast.Call) and isinstance(node.func, ast.Name) else None
+
+
+def walked_places(tree):
+    """The places where something is walked on the spot."""
+    places = [node.iter for node in ast.walk(tree) if isinstance(node, (ast.For, ast.comprehension))]
+    for node in ast.walk(tree):
+        if called(node) in WALKED_IN:
+            places += node.args if called(node) == "zip" else node.args[:1]
+    return places
 
 
 class Form(unittest.TestCase):
@@ -121,6 +150,42 @@ class Form(unittest.TestCase):
                 for alias in node.names:
                     self.assertIn(alias.name, defined, path)
                     self.assertIsNone(alias.asname)
+
+    def test_no_two_files_draw_from_one_another(self):
+        for path in FILES:
+            self.assertNotIn(path, drawn_from(path))
+
+    def test_a_name_is_bound_once_at_the_top(self):
+        for path in FILES:
+            tops = []
+            for part in tree_of(path).body[1:]:
+                self.assertIsInstance(part, (ast.ImportFrom, ast.FunctionDef, ast.ClassDef, ast.Assign), path)
+                if isinstance(part, ast.ImportFrom):
+                    tops += [alias.name for alias in part.names]
+                elif isinstance(part, ast.Assign):
+                    tops.append(part.targets[0].id)
+                else:
+                    tops.append(part.name)
+            self.assertEqual(len(tops), len(set(tops)), path)
+
+    def test_comprehensions_have_one_for_and_at_most_one_if(self):
+        for path, node in all_nodes():
+            if isinstance(node, ast.ListComp):
+                self.assertEqual(len(node.generators), 1, (path, node.lineno))
+                self.assertLessEqual(len(node.generators[0].ifs), 1, (path, node.lineno))
+
+    def test_is_stands_beside_none_true_and_false_alone(self):
+        for path, node in all_nodes():
+            if isinstance(node, ast.Compare) and isinstance(node.ops[0], (ast.Is, ast.IsNot)):
+                self.assertIn(ast.unparse(node.comparators[0]), ("None", "True", "False"), (path, node.lineno))
+
+    def test_what_is_walked_is_walked_at_once(self):
+        for path in FILES:
+            tree = tree_of(path)
+            walked = walked_places(tree)
+            for node in ast.walk(tree):
+                if called(node) in WALKED_AT_ONCE:
+                    self.assertIn(node, walked, (path, node.lineno))
 
     def test_names(self):
         for path in FILES:

@@ -4,7 +4,7 @@ import unittest
 from fractions import Fraction
 from math import floor
 
-from helper import HIGHEST, ask, ask_last, line, out, patch, set_level, state_after
+from helper import HIGHEST, ask, ask_last, given_at_all_levels, line, out, patch, set_level, state_after
 
 CURVES = ("linear", "square", "soft", "switch")
 
@@ -26,14 +26,6 @@ def exact(curve, level):
     if curve == "soft":
         return Fraction(255 * level ** 2 * (300 - 2 * level), 1000000)
     return Fraction(255 if level >= 50 else 0)
-
-
-def given_at_all_levels(curve, limit):
-    """What one dimmer gives at 0 to 100, all asked on one desk."""
-    calls = [patch(line(5, 9, curve, limit))]
-    for level in range(0, 101):
-        calls += [set_level(9, level), out(5)]
-    return [told[0] for told in ask(*calls)[2::2]]
 
 
 class Out(unittest.TestCase):
